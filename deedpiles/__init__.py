@@ -1,0 +1,1 @@
+"""Deedpiles: deeds that can change places, and be taken back."""

@@ -1,0 +1,115 @@
+"""The interface of DOC.md as far as it has landed, and rules of LANGUAGE.md that can be seen from outside."""
+
+import ast
+import importlib
+import inspect
+import re
+import unittest
+from pathlib import Path
+
+PACKAGE = Path(__file__).resolve().parent.parent / "deedpiles"
+FILES = sorted(path for path in PACKAGE.rglob("*") if path.is_file() and "__pycache__" not in path.parts)
+
+INTERFACE = {
+    "deedpiles.fields": {"need_field": ["field"], "touching": ["field", "name"]},
+    "deedpiles.piles": {
+        "need_script": ["field", "deeds"], "is_pile": ["field", "deeds"], "least_pile": ["field", "deeds"],
+        "length": ["field", "deeds"], "fronts": ["field", "deeds"], "ends": ["field", "deeds"],
+        "are_alike": ["field", "one", "other"], "joined": ["field", "one", "other"], "taken_back": ["field", "deeds"],
+    },
+    "deedpiles.errors": {
+        "BadField": ["part"], "BadScript": ["place"], "BadMoves": ["place"], "BadYard": ["part"], "BadSpot": ["value"],
+        "BadPaper": ["word"], "BadNumber": ["value"], "BadClaims": ["place"], "BadText": ["line", "word"],
+        "Unlike": ["value"], "Held": ["value"], "TooGreat": ["most"],
+    },
+}
+
+BUILTINS = """len range enumerate zip min max sum abs sorted reversed int str bool bytes list tuple dict set frozenset
+    isinstance ord repr any all divmod Exception ValueError TypeError KeyError IndexError LookupError ZeroDivisionError
+    ArithmeticError OverflowError RuntimeError NotImplementedError AttributeError StopIteration NotImplemented iter next
+    map super property staticmethod classmethod object""".split()
+ALL_BUILTINS = set(dir(__import__("builtins")))
+BARRED_WORDS = """type typing typing_extensions enum Enum IntEnum StrEnum Flag IntFlag Generic Protocol ABC ABCMeta
+    namedtuple NamedTuple TypedDict TYPE_CHECKING abstractmethod""".split()
+BARRED_NODES = (
+    ast.Global, ast.AsyncFunctionDef, ast.AsyncFor, ast.AsyncWith, ast.Await, ast.Import, ast.Div, ast.MatMult,
+    ast.GeneratorExp,
+)
+
+
+def text_of(path):
+    return path.read_text(encoding="utf-8")
+
+
+def nodes_of(path):
+    return list(ast.walk(ast.parse(text_of(path))))
+
+
+class InterfaceTests(unittest.TestCase):
+    def test_names_and_parameters(self):
+        for module, members in INTERFACE.items():
+            for name, parameters in members.items():
+                member = getattr(importlib.import_module(module), name)
+                self.assertEqual(list(inspect.signature(member).parameters), parameters, name)
+                self.assertEqual(member.__module__, module)
+
+    def test_defined_in_their_files(self):
+        for module, members in INTERFACE.items():
+            body = ast.parse(text_of(PACKAGE / f"{module.partition('.')[2]}.py")).body
+            defined = {node.name for node in body if isinstance(node, (ast.FunctionDef, ast.ClassDef))}
+            self.assertLessEqual(set(members), defined)
+
+
+class LanguageTests(unittest.TestCase):
+    def test_files(self):
+        for path in FILES:
+            self.assertTrue(re.fullmatch("[a-z0-9_]+[.]py", path.name), path)
+            self.assertTrue((path.parent / "__init__.py").is_file(), path)
+        self.assertIn(PACKAGE / "__init__.py", FILES)
+
+    def test_characters_and_sizes(self):
+        for path in FILES:
+            lines = text_of(path).splitlines()
+            self.assertLessEqual(len(lines), 399, path)
+            self.assertLessEqual(max(map(len, lines), default=0), 120, path)
+            self.assertTrue(re.fullmatch("[ -~\n]*", text_of(path)), path)
+            for node in nodes_of(path):
+                if isinstance(node, ast.FunctionDef):
+                    self.assertLessEqual(node.end_lineno - node.lineno + 1, 40, node.name)
+
+    def test_imports(self):
+        for path in FILES:
+            for node in nodes_of(path):
+                if isinstance(node, ast.ImportFrom):
+                    self.assertEqual(node.level, 0)
+                    self.assertTrue(node.module.startswith("deedpiles.") or node.module in ("heapq", "math", "itertools"))
+                    self.assertTrue(all(alias.asname is None and alias.name != "*" for alias in node.names), path)
+
+    def test_statements_and_expressions(self):
+        for path in FILES:
+            for node in nodes_of(path):
+                self.assertNotIsInstance(node, BARRED_NODES, f"{path}:{getattr(node, 'lineno', 0)}")
+                if isinstance(node, ast.Constant):
+                    self.assertNotIsInstance(node.value, float)
+                    self.assertFalse(isinstance(node.value, str) and "%" in node.value, path)
+
+    def test_names(self):
+        for path in FILES:
+            for node in nodes_of(path):
+                if isinstance(node, ast.Name) and isinstance(node.ctx, ast.Load) and node.id in ALL_BUILTINS:
+                    self.assertIn(node.id, BUILTINS, path)
+                bound = node.id if isinstance(node, ast.Name) and isinstance(node.ctx, ast.Store) else None
+                bound = node.arg if isinstance(node, ast.arg) else bound
+                bound = node.name if isinstance(node, (ast.FunctionDef, ast.ClassDef)) else bound
+                self.assertNotIn(bound, ALL_BUILTINS, path)
+
+    def test_barred_words(self):
+        for path in FILES:
+            for node in nodes_of(path):
+                words = [value for _, value in ast.iter_fields(node) if isinstance(value, str)]
+                for word in words:
+                    self.assertNotIn(word, BARRED_WORDS, path)
+
+
+if __name__ == "__main__":
+    unittest.main()
