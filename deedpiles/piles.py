@@ -21,10 +21,20 @@ def need_script(field, deeds):
 
 def is_step(names, value):
     """Whether any value is a step of the field with these names."""
+    return is_great_step(names, value) and is_times(value[1])
+
+
+def is_great_step(names, value):
+    """Whether any value is a step of the field with these names, or one with greater TIMES."""
     if not is_pair(value):
         return False
     name, times = value
-    return name in names and is_whole(times) and times != 0 and abs(times) <= MOST_TIMES
+    return name in names and is_whole(times) and times != 0
+
+
+def is_times(value):
+    """Whether any value can be the TIMES of a step."""
+    return is_whole(value) and value != 0 and abs(value) <= MOST_TIMES
 
 
 def is_pile(field, deeds):
@@ -124,3 +134,8 @@ def length_of(pieces):
 def back(steps):
     """The steps that take a tuple of steps back."""
     return tuple([(name, -times) for name, times in steps[::-1]])
+
+
+def do_touch(touch, one, other):
+    """Whether a name of some steps touches one of others."""
+    return any([far in touch[name] for name, _ in one for far, _ in other])

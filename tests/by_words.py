@@ -1,5 +1,6 @@
 """What the document says, taken at its words: slow, and apart from the program."""
 
+from functools import lru_cache
 from itertools import combinations, islice, product
 
 DEEP = "x"
@@ -88,12 +89,91 @@ def some_pile(field, script):
     return script
 
 
+@lru_cache(maxsize=None)
 def least_of(field, script):
     return in_least_order(field, some_pile(field, script))
 
 
 def taken_back_of(script):
     return tuple((name, -times) for name, times in reversed(script))
+
+
+def alike(field, one, other):
+    return least_of(field, one) == least_of(field, other)
+
+
+def length_by(pile):
+    return sum(abs(times) for _, times in pile)
+
+
+def units_of(script):
+    """The steps of a script, each of them done or taken back just once."""
+    return tuple((name, 1 if times > 0 else -1) for name, times in script for _ in range(abs(times)))
+
+
+def rows_of(field, script):
+    """All rows of units of the pile of a script, by changes of neighbours that are apart."""
+    seen = {units_of(some_pile(field, script))}
+    waiting = list(seen)
+    while waiting:
+        row = waiting.pop()
+        for at in range(len(row) - 1):
+            if apart(field, row[at][0], row[at + 1][0]):
+                form = row[:at] + (row[at + 1], row[at]) + row[at + 2:]
+                if form not in seen:
+                    seen.add(form)
+                    waiting.append(form)
+    return seen
+
+
+@lru_cache(maxsize=None)
+def lower_parts(field, script):
+    """The least piles of all lower parts of the pile of a script."""
+    return {least_of(field, row[:at]) for row in rows_of(field, script) for at in range(len(row) + 1)}
+
+
+def piles_above(field, pile, many):
+    """The least piles that come from a pile by at most so many units behind it, each of them making it longer."""
+    found = {least_of(field, pile)}
+    for _ in range(many):
+        longer = {least_of(field, low + ((name, sign),)) for low in found for name in field[0] for sign in (1, -1)}
+        found |= {high for high in longer if any(length_by(high) == length_by(low) + 1 for low in found)}
+    return {high for high in found if least_of(field, pile) in lower_parts(field, high)}
+
+
+def is_times(value):
+    return value.__class__ is int and 0 < abs(value) <= 10 ** 30
+
+
+def is_step(field, value):
+    return value.__class__ is tuple and len(value) == 2 and value[0] in field[0] and is_times(value[1])
+
+
+def after(field, steps, move):
+    """The steps that a move makes of others, or None if it cannot be made."""
+    if move.__class__ is not tuple or len(move) < 2 or move[1].__class__ is not int or move[1] < 0:
+        return None
+    word, at, rest = move[0], move[1], list(steps)
+    if word == "change" and len(move) == 2 and at + 1 < len(rest) and apart(field, rest[at][0], rest[at + 1][0]):
+        rest.insert(at, rest.pop(at + 1))
+    elif word == "join" and len(move) == 2 and at + 1 < len(rest) and rest[at][0] == rest[at + 1][0]:
+        (name, some), (_, more) = rest[at:at + 2]
+        rest[at:at + 2] = [(name, some + more)] if some + more != 0 else []
+    elif word == "part" and len(move) == 3 and at < len(rest) and is_times(move[2]) and move[2] != rest[at][1]:
+        name, whole = rest[at]
+        rest[at:at + 1] = [(name, move[2]), (name, whole - move[2])]
+    elif word == "put" and len(move) == 3 and at <= len(rest) and is_step(field, move[2]):
+        rest[at:at] = [move[2], (move[2][0], -move[2][1])]
+    else:
+        return None
+    return tuple(rest) if len(rest) <= 400 else None
+
+
+def follow(field, steps, moves):
+    """The steps that moves make of others, each of which can be made."""
+    for move in moves:
+        steps = after(field, steps, move)
+    return steps
 
 
 class Drawing:
@@ -103,8 +183,10 @@ class Drawing:
         self.field = field
         self.pile = in_least_order(field, pile)
         self.moduli = [self.modulus(name) for name, _ in self.pile]
-        places = range(len(self.pile))
-        self.below = [[low for low in places if self.has_to_be_ahead(low, high)] for high in places]
+        self.below = []
+        for at in range(len(self.pile)):
+            self.below.append({low for low in range(at) if self.has_to_be_ahead(low, at)})
+        self.over = [[high for high, low in enumerate(self.below) if at in low] for at in range(len(self.pile))]
 
     def modulus(self, name):
         number = 2
@@ -113,17 +195,14 @@ class Drawing:
         return number
 
     def has_to_be_ahead(self, low, high):
-        if low >= high:
-            return False
+        """Whether one piece touches another one behind it, or has to be ahead of one that does."""
         names = [name for name, _ in self.pile]
-        if not apart(self.field, names[low], names[high]):
-            return True
-        return any(self.has_to_be_ahead(low, at) and self.has_to_be_ahead(at, high) for at in range(low + 1, high))
+        over = [at for at in range(low + 1, high) if low in self.below[at]]
+        return any(not apart(self.field, names[at], names[high]) for at in [low] + over)
 
     def is_free(self, spot, at):
-        over = [high for high in range(len(self.pile)) if at in self.below[high]]
         done = all(spot[low] == self.pile[low][1] % self.moduli[low] for low in self.below[at])
-        return done and all(spot[high] == 0 for high in over)
+        return done and all(spot[high] == 0 for high in self.over[at])
 
     def led(self, spot, name, sign):
         for at, (other, _) in enumerate(self.pile):
@@ -131,10 +210,40 @@ class Drawing:
                 return spot[:at] + ((spot[at] + sign) % self.moduli[at],) + spot[at + 1:]
         return spot
 
+    def first(self):
+        return (0,) * len(self.pile)
+
     def led_by(self, script):
         """The spot to which a script leads from the one with 0 for all pieces."""
-        spot = (0,) * len(self.pile)
-        for name, times in script:
-            for _ in range(abs(times)):
-                spot = self.led(spot, name, 1 if times > 0 else -1)
+        spot = self.first()
+        for name, sign in units_of(script):
+            spot = self.led(spot, name, sign)
         return spot
+
+    def all_spots(self):
+        """The spots to which names lead from the first one."""
+        spots = [self.first()]
+        seen = set(spots)
+        while spots:
+            spot = spots.pop()
+            for name in self.field[0]:
+                further = self.led(spot, name, 1)
+                if further not in seen:
+                    seen.add(further)
+                    spots.append(further)
+        return seen
+
+    def is_told_by(self, yard):
+        """Whether a yard tells just the spots to which names lead from the first one, which is 0 there."""
+        numbers = {self.first(): 0}
+        waiting = [self.first()]
+        while waiting:
+            spot = waiting.pop()
+            for row, name in zip(yard, self.field[0]):
+                further = self.led(spot, name, 1)
+                if further not in numbers:
+                    numbers[further] = row[numbers[spot]]
+                    waiting.append(further)
+                if numbers[further] != row[numbers[spot]]:
+                    return False
+        return sorted(numbers.values()) == list(range(len(yard[0])))

@@ -17,6 +17,15 @@ INTERFACE = {
         "length": ["field", "deeds"], "fronts": ["field", "deeds"], "ends": ["field", "deeds"],
         "are_alike": ["field", "one", "other"], "joined": ["field", "one", "other"], "taken_back": ["field", "deeds"],
     },
+    "deedpiles.lower": {
+        "is_lower": ["field", "one", "other"], "common": ["field", "one", "other"], "over_both": ["field", "one", "other"],
+    },
+    "deedpiles.moves": {"moved": ["field", "deeds", "moves"], "road": ["field", "deeds"]},
+    "deedpiles.yards": {
+        "need_yard": ["field", "yard"], "led": ["field", "yard", "deeds", "spot"],
+        "do_alike_in": ["field", "yard", "one", "other"], "yard_of": ["field", "deeds"],
+    },
+    "deedpiles.papers": {"paper": ["field", "one", "other"], "check_paper": ["field", "one", "other", "paper"]},
     "deedpiles.errors": {
         "BadField": ["part"], "BadScript": ["place"], "BadMoves": ["place"], "BadYard": ["part"], "BadSpot": ["value"],
         "BadPaper": ["word"], "BadNumber": ["value"], "BadClaims": ["place"], "BadText": ["line", "word"],
@@ -102,6 +111,30 @@ class LanguageTests(unittest.TestCase):
                 bound = node.arg if isinstance(node, ast.arg) else bound
                 bound = node.name if isinstance(node, (ast.FunctionDef, ast.ClassDef)) else bound
                 self.assertNotIn(bound, ALL_BUILTINS, path)
+
+    def test_no_name_of_an_import_or_a_class_is_bound_again(self):
+        for path in FILES:
+            nodes = nodes_of(path)
+            taken = [alias.name for node in nodes if isinstance(node, ast.ImportFrom) for alias in node.names]
+            taken += [node.name for node in nodes if isinstance(node, ast.ClassDef)]
+            bound = [node.id for node in nodes if isinstance(node, ast.Name) and not isinstance(node.ctx, ast.Load)]
+            bound += [node.arg for node in nodes if isinstance(node, ast.arg)]
+            bound += [node.name for node in nodes if isinstance(node, ast.FunctionDef)]
+            self.assertEqual(len(taken), len(set(taken)), path)
+            self.assertFalse(set(taken) & set(bound), path)
+
+    def test_imports_are_used_and_acyclic(self):
+        modules = {f"deedpiles.{path.stem}": path for path in FILES if path.stem != "__init__"}
+        needed = {}
+        for module, path in modules.items():
+            imports = [node for node in nodes_of(path) if isinstance(node, ast.ImportFrom)]
+            needed[module] = {node.module for node in imports if node.module in modules}
+            read = {node.id for node in nodes_of(path) if isinstance(node, ast.Name)}
+            self.assertLessEqual({alias.name for node in imports for alias in node.names}, read, path)
+        while needed:
+            ready = [module for module in needed if not needed[module] & set(needed)]
+            self.assertTrue(ready, needed)
+            needed = {module: needed[module] for module in needed if module not in ready}
 
     def test_barred_words(self):
         for path in FILES:
