@@ -32,6 +32,13 @@ def is_great_step(names, value):
     return name in names and is_whole(times) and times != 0
 
 
+def are_great_steps(names, value, most):
+    """Whether any value is a tuple of at most so many steps of the field, or such with greater TIMES."""
+    if not isinstance(value, tuple) or len(value) > most:
+        return False
+    return all([is_great_step(names, item) for item in value])
+
+
 def is_times(value):
     """Whether any value can be the TIMES of a step."""
     return is_whole(value) and value != 0 and abs(value) <= MOST_TIMES

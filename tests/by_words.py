@@ -141,6 +141,66 @@ def piles_above(field, pile, many):
     return {high for high in found if least_of(field, pile) in lower_parts(field, high)}
 
 
+def can_stand_last(field, pile):
+    return [len(pile) - 1 - at for at in can_stand_first(field, pile[::-1])]
+
+
+def is_round(field, pile):
+    """Whether no name has two different pieces, one of which can stand first, and the other one last."""
+    return not any(pile[low][0] == pile[high][0] and low != high
+                   for low in can_stand_first(field, pile) for high in can_stand_last(field, pile))
+
+
+def parts_of(field, pile):
+    """The parts of a round pile, as they stand in it."""
+    parts = []
+    for at, (name, _) in enumerate(pile):
+        near = [part for part in parts if any(not apart(field, name, pile[other][0]) for other in part)]
+        parts = [part for part in parts if part not in near] + [sorted(sum(near, [at]))]
+    return [tuple(pile[at] for at in part) for part in parts]
+
+
+@lru_cache(maxsize=None)
+def round_turns(field, script):
+    """The least piles of all round piles that are turns of a script, by turning it unit by unit."""
+    first = least_of(field, script)
+    seen, waiting = {first}, [first]
+    while waiting:
+        pile = waiting.pop()
+        for name in field[0]:
+            for sign in (1, -1):
+                turn = least_of(field, ((name, -sign),) + pile + ((name, sign),))
+                if turn not in seen and length_by(turn) <= length_by(pile):
+                    seen.add(turn)
+                    waiting.append(turn)
+    return {pile for pile in seen if is_round(field, pile)}
+
+
+def turn_form_of(field, script):
+    """The least pile of the least pointed turns of all parts of a round pile that is a turn of a script."""
+    least = []
+    for part in parts_of(field, min(round_turns(field, script))):
+        turns = [turn for turn in round_turns(field, part) if len(can_stand_first(field, turn)) == 1]
+        least.append(min(turn for turn in turns if turn[0][0] == min(part)[0]))
+    return least_of(field, sum(least, ()))
+
+
+def is_root(field, pile):
+    """Whether a pile is round, of one part, and none of its lower parts is, two or more times, alike to it."""
+    if not is_round(field, pile) or len(parts_of(field, pile)) != 1:
+        return False
+    lower = [low for low in lower_parts(field, pile) if low]
+    return not any(alike(field, low * (length_by(pile) // length_by(low)), pile) for low in lower if length_by(low) < length_by(pile))
+
+
+def some_piles(field, most):
+    """All least piles of at most so much LENGTH."""
+    found = {()}
+    for _ in range(most):
+        found |= {least_of(field, low + ((name, sign),)) for low in found for name in field[0] for sign in (1, -1)}
+    return sorted(found)
+
+
 def is_times(value):
     return value.__class__ is int and 0 < abs(value) <= 10 ** 30
 

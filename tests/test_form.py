@@ -26,6 +26,19 @@ INTERFACE = {
         "do_alike_in": ["field", "yard", "one", "other"], "yard_of": ["field", "deeds"],
     },
     "deedpiles.papers": {"paper": ["field", "one", "other"], "check_paper": ["field", "one", "other", "paper"]},
+    "deedpiles.rounds": {
+        "is_round": ["field", "deeds"], "core": ["field", "deeds"], "split": ["field", "deeds"],
+        "is_split": ["field", "deeds", "value"],
+    },
+    "deedpiles.turns": {
+        "turn_form": ["field", "deeds"], "are_turns": ["field", "one", "other"], "turner": ["field", "one", "other"],
+        "does_turn": ["field", "one", "other", "value"], "turns_of": ["field", "deeds"],
+    },
+    "deedpiles.powers": {
+        "greatest_root": ["field", "deeds"], "nth_root": ["field", "deeds", "number"], "power": ["field", "deeds", "number"],
+        "power_length": ["field", "deeds", "number"], "some_times": ["field", "one", "other"],
+        "are_powers_alike": ["field", "one", "number", "other", "times"],
+    },
     "deedpiles.errors": {
         "BadField": ["part"], "BadScript": ["place"], "BadMoves": ["place"], "BadYard": ["part"], "BadSpot": ["value"],
         "BadPaper": ["word"], "BadNumber": ["value"], "BadClaims": ["place"], "BadText": ["line", "word"],
@@ -42,7 +55,7 @@ BARRED_WORDS = """type typing typing_extensions enum Enum IntEnum StrEnum Flag I
     namedtuple NamedTuple TypedDict TYPE_CHECKING abstractmethod""".split()
 BARRED_NODES = (
     ast.Global, ast.AsyncFunctionDef, ast.AsyncFor, ast.AsyncWith, ast.Await, ast.Import, ast.Div, ast.MatMult,
-    ast.GeneratorExp,
+    ast.GeneratorExp, ast.Lambda, ast.Starred,
 )
 
 
