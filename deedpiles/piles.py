@@ -19,6 +19,11 @@ def need_script(field, deeds):
     return deeds
 
 
+def is_script(names, value):
+    """Whether any value is a script of the fields with these names."""
+    return are_great_steps(names, value, MOST_STEPS) and all([is_times(times) for _, times in value])
+
+
 def is_step(names, value):
     """Whether any value is a step of the field with these names."""
     return is_great_step(names, value) and is_times(value[1])

@@ -28,28 +28,28 @@ SCRIPTS = [
 class CallCase(unittest.TestCase):
     """Tests of functions by the arguments that they take, told as a dict in the order of the interface."""
 
-    def refused(self, act, kind, told):
+    def refused(self, act, kind, *told):
         with self.assertRaises(kind) as caught:
             act()
         error = caught.exception
         self.assertIs(error.__class__, kind)
         self.assertEqual(isinstance(error, PileError), isinstance(error, ValueError))
         values = list(vars(error).values())
-        self.assertEqual(values, [told])
-        self.assertIs(values[0].__class__, told.__class__)
+        self.assertEqual(values, list(told))
+        self.assertEqual([value.__class__ for value in values], [value.__class__ for value in told])
 
     def refuses(self, function, good, wrong):
         """Each wrong value of each argument is refused, whatever the arguments behind it are."""
         names = list(good)
         self.assertEqual(names[:len(wrong)], list(wrong))
         for at, name in enumerate(wrong):
-            for value, kind, told in wrong[name]:
+            for value, kind, *told in wrong[name]:
                 for others in (good, {later: wrong[later][0][0] for later in names[at + 1:] if later in wrong}):
                     arguments = {**good, **others, name: value}
                     before = deepcopy(arguments)
-                    self.refused(lambda: function(*arguments.values()), kind, told)
-                    self.refused(lambda: function(**arguments), kind, told)
-                    self.refused(lambda: function(**dict(reversed(arguments.items()))), kind, told)
+                    self.refused(lambda: function(*arguments.values()), kind, *told)
+                    self.refused(lambda: function(**arguments), kind, *told)
+                    self.refused(lambda: function(**dict(reversed(arguments.items()))), kind, *told)
                     self.assertEqual(arguments, before)
 
     def called(self, function, good):

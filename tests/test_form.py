@@ -39,6 +39,20 @@ INTERFACE = {
         "power_length": ["field", "deeds", "number"], "some_times": ["field", "one", "other"],
         "are_powers_alike": ["field", "one", "number", "other", "times"],
     },
+    "deedpiles.keepers": {
+        "do_change": ["field", "one", "other"], "free_names": ["field", "deeds"], "kept_as": ["field", "deeds", "other"],
+    },
+    "deedpiles.writings": {
+        "many_writings": ["field", "deeds"], "writing_at": ["field", "deeds", "number"], "all_writings": ["field", "deeds"],
+        "is_writing": ["field", "row"], "writing_number": ["field", "row"],
+    },
+    "deedpiles.middles": {
+        "distance": ["field", "one", "other"], "is_between": ["field", "one", "other", "far"],
+        "middle_of": ["field", "one", "two", "three"],
+    },
+    "deedpiles.toldback": {
+        "fields_of": ["names", "claims"], "told_pairs": ["names", "claims"], "quarrel": ["names", "claims"],
+    },
     "deedpiles.errors": {
         "BadField": ["part"], "BadScript": ["place"], "BadMoves": ["place"], "BadYard": ["part"], "BadSpot": ["value"],
         "BadPaper": ["word"], "BadNumber": ["value"], "BadClaims": ["place"], "BadText": ["line", "word"],
