@@ -53,12 +53,35 @@ INTERFACE = {
     "deedpiles.toldback": {
         "fields_of": ["names", "claims"], "told_pairs": ["names", "claims"], "quarrel": ["names", "claims"],
     },
+    "deedpiles.values": {"Pile": ["field", "deeds"]},
+    "deedpiles.sheet": {"Sheet": ["field"], "under": ["manager", "deed"]},
+    "deedpiles.texts": {
+        "field_text": ["field"], "script_text": ["field", "deeds"], "read_field": ["text"], "read_script": ["field", "text"],
+    },
+    "deedpiles.desk": {"Desk": ["text"]},
     "deedpiles.errors": {
         "BadField": ["part"], "BadScript": ["place"], "BadMoves": ["place"], "BadYard": ["part"], "BadSpot": ["value"],
         "BadPaper": ["word"], "BadNumber": ["value"], "BadClaims": ["place"], "BadText": ["line", "word"],
         "Unlike": ["value"], "Held": ["value"], "TooGreat": ["most"],
     },
 }
+
+# For each class its methods with their parameters, and its properties, which have None in the place of these.
+METHODS = {
+    "deedpiles.values.Pile": {
+        "field": None, "steps": None, "length": None, "many": ["times"], "is_lower": ["other"], "over_both": ["other"],
+        "distance": ["other"], "middle": ["other", "third"], "__len__": [], "__getitem__": ["at"], "__contains__": ["x"],
+        "__eq__": ["other"], "__mul__": ["other"], "__and__": ["other"], "__invert__": [], "__iter__": [],
+    },
+    "deedpiles.sheet.Sheet": {
+        "field": None, "row": None, "steps": None, "least": [], "do": ["step"], "free": [], "ahead_of": ["number"],
+        "take_back": ["number"], "take_all": ["number"], "undo": [], "redo": [], "copy": [], "trial": [], "__len__": [],
+        "__contains__": ["x"], "__eq__": ["other"],
+    },
+    "deedpiles.desk.Desk": {"sheet": None, "say": ["line"]},
+}
+# What a class may define besides, by L5; no error class has any of these but __init__.
+SPECIAL = """__init__ __eq__ __len__ __enter__ __exit__ __iter__ __getitem__ __contains__ __mul__ __and__ __invert__""".split()
 
 BUILTINS = """len range enumerate zip min max sum abs sorted reversed int str bool bytes list tuple dict set frozenset
     isinstance ord repr any all divmod Exception ValueError TypeError KeyError IndexError LookupError ZeroDivisionError
@@ -88,6 +111,17 @@ class InterfaceTests(unittest.TestCase):
                 member = getattr(importlib.import_module(module), name)
                 self.assertEqual(list(inspect.signature(member).parameters), parameters, name)
                 self.assertEqual(member.__module__, module)
+
+    def test_methods_and_properties(self):
+        for path, members in METHODS.items():
+            module, _, kind = path.rpartition(".")
+            here = vars(getattr(importlib.import_module(module), kind))
+            for name, parameters in members.items():
+                if parameters is None:
+                    self.assertIsInstance(here[name], property)
+                    self.assertIsNone(here[name].fset)
+                else:
+                    self.assertEqual(list(inspect.signature(here[name]).parameters), ["self"] + parameters, name)
 
     def test_defined_in_their_files(self):
         for module, members in INTERFACE.items():
@@ -162,6 +196,26 @@ class LanguageTests(unittest.TestCase):
             ready = [module for module in needed if not needed[module] & set(needed)]
             self.assertTrue(ready, needed)
             needed = {module: needed[module] for module in needed if module not in ready}
+
+    def test_classes(self):
+        for path in FILES:
+            for kind in [node for node in nodes_of(path) if isinstance(node, ast.ClassDef)]:
+                methods = {node.name: node for node in kind.body if isinstance(node, ast.FunctionDef)}
+                special = [name for name in methods if name.startswith("__")]
+                self.assertLessEqual(set(special), {"__init__"} if path.stem == "errors" else set(SPECIAL), kind.name)
+                self.assertNotIn("keys", methods)
+                if "__getitem__" in methods:
+                    self.assertIsInstance(methods["__iter__"].body[-1], ast.Raise)
+                for node in methods.values():
+                    self.assertIn([ast.unparse(one) for one in node.decorator_list], ([], ["property"]))
+
+    def test_trials_end_by_assignments_alone(self):
+        for path in FILES:
+            for node in nodes_of(path):
+                if isinstance(node, ast.FunctionDef) and node.name == "__exit__":
+                    for row in node.body:
+                        self.assertIsInstance(row, ast.Assign)
+                        self.assertTrue(all(isinstance(part, ast.Attribute) for part in row.targets + [row.value]))
 
     def test_barred_words(self):
         for path in FILES:
