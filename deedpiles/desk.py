@@ -131,12 +131,11 @@ def answer_middle(sheet, rest):
     return steps_text(middle_of(sheet.field, one, two, three))
 
 
-# Words that are lines by themselves, and words with more behind a blank.
-ALONE = {
+WORDS_ALONE = {
     "free": answer_free, "numbers": answer_numbers, "undo": answer_undo, "redo": answer_redo,
     "row": answer_row, "pile": answer_pile, "field": answer_field,
 }
-WITH_MORE = {
+WORDS_WITH_MORE = {
     "do": answer_do, "take": answer_take, "all": answer_all, "ahead": answer_ahead, "least": answer_least,
     "length": answer_length, "many": answer_many, "write": answer_write, "alike": answer_alike,
     "distance": answer_distance, "middle": answer_middle,
@@ -146,11 +145,11 @@ WITH_MORE = {
 def answer(sheet, line):
     """The answer to a line; an error of the package for one that has none."""
     word, blank, rest = line.partition(" ")
-    if blank == "" and word in ALONE:
-        act = ALONE[word]
+    if blank == "" and word in WORDS_ALONE:
+        act = WORDS_ALONE[word]
         return act(sheet)
-    if blank != "" and word in WITH_MORE:
-        act = WITH_MORE[word]
+    if blank != "" and word in WORDS_WITH_MORE:
+        act = WORDS_WITH_MORE[word]
         return act(sheet, rest)
     raise BadText(0, 0)
 

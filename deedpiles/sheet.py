@@ -7,12 +7,15 @@ from deedpiles.piles import MOST_STEPS, is_step, piled
 
 
 class Sheet:
-    """A sheet: a row of steps that were done and stand, each with its number."""
+    """A sheet: a row of steps that were done and stand, each with its number.
+
+    Its state is a triple: the row with the number of the next step, as they are now; a tuple of all such
+    pairs to which undo leads, the next one last; and one of those to which redo leads, the next one first.
+    """
 
     def __init__(self, field):
         self._field = need_field(field)
-        # What stands with the number of the next step, now; then all to which undo, and to which redo, leads.
-        # All this is replaced at once, and never changed: so a trial, or a copy, has just to keep it.
+        # Tuples, and replaced at once: so a trial, or a copy, has just to keep what there is.
         self._state = (((), 0), (), ())
 
     @property

@@ -11,14 +11,15 @@ MOST_WRITINGS = 1000
 
 
 class Growth:
-    """How a pile grows unit by unit: told for each of its lower parts that consist of whole units."""
+    """How a pile grows unit by unit, through its lower parts that consist of whole units.
+
+    first is the empty one of these; further has for each of them the units that can come next, ascending,
+    each with the lower part that it makes; counts has for each in how many ways it grows to the whole pile.
+    """
 
     def __init__(self, first, further):
-        # The empty lower part.
         self.first = first
-        # For each lower part the units that can come next, ascending, each with the lower part that it makes.
         self.further = further
-        # For each lower part in how many ways it grows to the whole pile.
         self.counts = counts_of(further)
 
 
@@ -112,7 +113,7 @@ def columns_of(field, pieces):
 
 def next_parts(columns, part):
     """The units that can come next behind a lower part, ascending, each with the lower part that it makes."""
-    # A lower part is told by how many units of each name it has: those of one name lie on one another.
+    # Units of one name lie on one another: so it is enough to know how many of each name a lower part has.
     found = []
     for at, column in enumerate(columns):
         if part[at] < len(column):
@@ -125,7 +126,7 @@ def next_parts(columns, part):
 def counts_of(further):
     """For each lower part in how many ways it grows to the whole pile."""
     counts = {}
-    # The lower parts stand there by their sizes, the whole pile last.
+    # They stand there by their sizes: from the last one on, all larger ones are told already.
     for part in list(further)[::-1]:
         steps = further[part]
         counts[part] = sum([counts[larger] for _, larger in steps]) if steps else 1
